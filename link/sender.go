@@ -15,7 +15,7 @@ type Sender struct {
 
 // NewSender is an end without texts.
 func NewSender(life int) (*Sender, api.Errno) {
-	if !isBig(life) {
+	if !isLife(life) {
 		return nil, api.ErrArg
 	}
 	return &Sender{life: life}, api.OK

@@ -11,7 +11,12 @@ import (
 )
 
 // noLives are none, also such as are one mod 2^32.
-var noLives = []int{0, -1, -5, math.MinInt, api.MaxBig + 1, api.MaxBig + 2, 2 * api.MaxBig, 1 << 62, math.MaxInt}
+var noLives = []int{
+	0, -1, -5, math.MinInt, api.MaxBig + 1, api.MaxBig + 2, api.MaxBig + 4, 2 * api.MaxBig, 1<<50 - 1, 1 << 62, math.MaxInt,
+}
+
+// noNumbers are such as no text has, and up to which none came.
+var noNumbers = []int{-1, math.MinInt, api.MaxBig + 1, api.MaxBig + 2, 2 * api.MaxBig, 1<<50 - 1, 1<<56 + 1, math.MaxInt}
 
 // counted are the texts 1, 2 and so on.
 func counted(from, to int) []string {
@@ -131,12 +136,12 @@ func TestHeardState(t *testing.T) {
 	s := sender(t, 4, "a", "b", "c")
 	refuse := func(came int) {
 		t.Helper()
-		for _, life := range []int{0, 1, 2, 3, 5, 6, 4 + 1<<32, 4 + api.MaxBig, api.MaxBig, math.MaxInt} {
-			for _, number := range []int{0, 1, 2, 3, 4, api.MaxBig, math.MaxInt} {
+		for _, life := range []int{1, 2, 3, 5, 6, 4 + 1<<32, api.MaxBig - 1, api.MaxBig} {
+			for _, number := range []int{0, 1, 2, 3, 4, api.MaxBig - 1, api.MaxBig} {
 				failsHeard(t, s, ack(life, number), api.ErrState)
 			}
 		}
-		for _, number := range []int{4, 5, 1 << 32, 1<<32 + 1, api.MaxBig, api.MaxBig + 1, math.MaxInt} {
+		for _, number := range []int{4, 5, 1 << 32, 1<<32 + 1, api.MaxBig - 1, api.MaxBig} {
 			failsHeard(t, s, ack(4, number), api.ErrState)
 		}
 		waits(t, s, 4, came, []string{"a", "b", "c"}[came:]...)
@@ -150,7 +155,7 @@ func TestHeardState(t *testing.T) {
 	hears(t, none, ack(1, 0), 0)
 	failsHeard(t, none, ack(1, 1), api.ErrState)
 	top := sender(t, api.MaxBig, "a")
-	failsHeard(t, top, ack(api.MaxBig+1, 1), api.ErrState)
+	failsHeard(t, top, ack(api.MaxBig-1, 1), api.ErrState)
 	hears(t, top, ack(api.MaxBig, 1), 1)
 }
 
@@ -166,6 +171,16 @@ func noAcks() []string {
 		packed(2, eight(1<<63+4), b), packed(2, a, eight(1<<63+1)), packed(2, eight(math.MaxUint64), b),
 		packed(2, a, eight(math.MaxUint64)), packed(2, eight(1<<63), eight(1<<63)),
 	}
+	for _, none := range noLives {
+		for _, number := range []int{0, 1, 2, 6, api.MaxBig, api.MaxBig + 1, math.MaxInt} {
+			out = append(out, ack(none, number))
+		}
+	}
+	for _, none := range noNumbers {
+		for _, life := range []int{1, 3, 4, 5, api.MaxBig} {
+			out = append(out, ack(life, none))
+		}
+	}
 	whole := ack(4, 1)
 	for n := range len(whole) {
 		out = append(out, whole[:n])
@@ -175,10 +190,12 @@ func noAcks() []string {
 
 // 12.1: bytes that are no ack's: nothing stops waiting. It is told ahead of a life that is another one.
 func TestHeardForm(t *testing.T) {
-	s, other := sender(t, 4, "a", "b"), sender(t, 5)
+	s, others := sender(t, 4, "a", "b"), []*link.Sender{sender(t, 1), sender(t, 5), sender(t, api.MaxBig, "a")}
 	for _, b := range noAcks() {
 		failsHeard(t, s, b, api.ErrForm)
-		failsHeard(t, other, b, api.ErrForm)
+		for _, other := range others {
+			failsHeard(t, other, b, api.ErrForm)
+		}
 		failsHeard(t, nil, b, api.ErrForm)
 		waits(t, s, 4, 0, "a", "b")
 	}
@@ -195,7 +212,7 @@ func TestNilSender(t *testing.T) {
 	}
 	failsPush(t, s, text(7901), api.ErrLong)
 	failsPush(t, s, strings.Repeat("a", 1<<20), api.ErrLong)
-	for _, b := range []string{ack(1, 0), ack(1, 1), ack(4, 1), ack(api.MaxBig, api.MaxBig)} {
+	for _, b := range []string{ack(1, 0), ack(1, 1), ack(4, 1), ack(1, api.MaxBig), ack(api.MaxBig, 0), ack(api.MaxBig, api.MaxBig)} {
 		failsHeard(t, s, b, api.ErrState)
 	}
 	if got := s.Frames(); len(got) != 0 || s.Waiting() != 0 {

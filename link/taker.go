@@ -52,7 +52,7 @@ func readFrame(frame string) (int, int, string, api.Errno) {
 	if e != api.OK {
 		return 0, 0, "", e
 	}
-	if !isBig(life) || !isBig(number) || len(items[0]) > maxText {
+	if number == 0 || len(items[0]) > maxText {
 		return 0, 0, "", api.ErrForm
 	}
 	return life, number, items[0], api.OK
