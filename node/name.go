@@ -26,16 +26,16 @@ func (x *Node) isNew(r queue.Request) bool {
 	_, known := x.queue.Get(r.ID)
 	wait, _ := x.queue.Count()
 	// A request is what can be told as one.
-	return !known && wait < queue.Room && note.Check(x.asks(r)) == api.OK
+	return !known && wait < queue.Room && note.Check(x.gossipOf(r)) == api.OK
 }
 
-// asks is the Gossip of a request of its own.
-func (x *Node) asks(r queue.Request) note.Note {
+// gossipOf is the Gossip of a request of its own.
+func (x *Node) gossipOf(r queue.Request) note.Note {
 	return note.Note{Kind: note.Gossip, Origin: x.key.Self, ID: r.ID, M: r.M}
 }
 
 // gossip tells all others a request of its own.
-func (x *Node) gossip(r queue.Request) { x.others(x.says(x.asks(r)).tell) }
+func (x *Node) gossip(r queue.Request) { x.others(x.says(x.gossipOf(r)).tell) }
 
 // accept has a new request wait: ErrFull, if there is no room for it in the file.
 func (x *Node) accept(r queue.Request) api.Errno {
@@ -77,8 +77,8 @@ func (x *Node) waits(r name) bool {
 	return r.Origin == x.key.Self && slices.Contains(x.queue.Waiting(), queue.Request{ID: r.ID, M: r.M})
 }
 
-// ask opens a request of a node, or tells it that it is final.
-func (x *Node) ask(r name) {
+// hearGossip opens a request of a node, or tells it that it is final.
+func (x *Node) hearGossip(r name) {
 	p := &x.peers[r.Origin]
 	if sig, is := x.final[r]; is {
 		x.says(r.end(sig)).tell(r.Origin)

@@ -12,7 +12,7 @@ func (x *Node) read(from int, n note.Note) {
 	switch n.Kind {
 	case note.Gossip:
 		if n.Origin == from {
-			x.ask(nameOf(n))
+			x.hearGossip(nameOf(n))
 		}
 	case note.Ask:
 		if x.isTurn(from, n.View) {

@@ -39,7 +39,7 @@ func (x *Node) enter(view int) {
 	}
 }
 
-// hearView takes the view that a node told: its own is at least the least one of which a node that does as told knows.
+// hearView takes the view that a node told. Of f + 1 nodes that came so far one does as told, so that its own is no less.
 func (x *Node) hearView(node, view int) {
 	x.peers[node].view = max(x.peers[node].view, view)
 	var views []int
@@ -52,8 +52,8 @@ func (x *Node) hearView(node, view int) {
 	}
 }
 
-// beat tells a node its view, if it is told nothing else.
-func (x *Node) beat(node int) {
+// tellView tells a node its view, if it is told nothing else.
+func (x *Node) tellView(node int) {
 	if x.peers[node].sender.Waiting() == 0 {
 		x.says(note.Note{Kind: note.Beat, View: x.View()}).tell(node)
 	}
