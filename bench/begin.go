@@ -17,7 +17,7 @@ func check(n, f int, seed string, odd int) api.Errno {
 	switch {
 	case e != api.OK: // it is no table
 		return e
-	case odd < 0, odd>>n != 0, bits.OnesCount(uint(odd)) > f:
+	case odd>>n != 0, bits.OnesCount(uint(odd)) > f: // one below 0 has bits of no node
 		return api.ErrArg
 	case len(seed) > maxSeed:
 		return api.ErrLong

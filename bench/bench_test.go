@@ -449,20 +449,18 @@ func TestDown(t *testing.T) {
 		{0, 256, false}, {0, -1, false}, {size - 1, 257, false}, {size - 1, math.MinInt, false}, {size, -1, true}, {-1, 256, true},
 		{1 << 32, 0, true}, {0, 1 << 32, false},
 	} {
-		for _, up := range []bool{true, false} {
-			// The power goes at the sync; or ahead of it, behind a node that is up all is synced.
+		for _, twice := range []bool{true, false} {
 			x := pairOf(t, 4, 1, "s", 0)
 			x.step(fuse(2, 2))
 			x.answers(submit(2, 1, "a"), 0)
 			if x.b.Up(2) || x.b.Waiting(2) != nil {
 				t.Fatal("it is up")
 			}
-			if up {
-				// What was told first counts: then the file crashed.
-				x.step(down(2, c.n, c.mask))
+			x.step(down(2, c.n, c.mask))
+			if twice {
+				// What was told first counts: the file crashed then.
 				x.step(down(2, size-c.n, 0))
-			} else {
-				x.step(down(2, c.n, c.mask))
+				x.step(down(2, 0, 0))
 			}
 			if c.keeps {
 				x.opens(2, r)
@@ -582,12 +580,11 @@ func TestFull(t *testing.T) {
 	// Accepted requests, each as long as there is room for.
 	id := 0
 	for size := 4096; size >= 1; size /= 2 {
-		for {
-			id++
-			l := b.Step(submit(1, id, strings.Repeat("m", size-1)))
-			if len(l) == 0 || l[0].Answer != queue.Accepted {
-				break
+		for answer := queue.Accepted; answer == queue.Accepted; id++ {
+			if id == 500 {
+				t.Fatal("there is room for ever")
 			}
+			answer = b.Step(submit(1, id+1, strings.Repeat("m", size-1)))[0].Answer
 		}
 	}
 	for count := 0; b.Up(1); count++ {

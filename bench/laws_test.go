@@ -205,6 +205,27 @@ func TestNewTexts(t *testing.T) {
 	}
 }
 
+// R3: what is handed in is not kept: what becomes of its memory later is nobody's concern.
+func TestTextsAreNotKept(t *testing.T) {
+	x := pairOf(t, 4, 1, "s", 8)
+	memory := []byte("a message")
+	l := x.b.Step(submit(1, 1, unsafe.String(&memory[0], len(memory))))
+	clear(memory)
+	x.p.step(submit(1, 1, "a message"))
+	x.like()
+	if len(l) != 1 || l[0].R.M != "a message" || x.b.Waiting(1)[0].M != "a message" {
+		t.Errorf("%+v", l)
+	}
+	memory = []byte(frame(9000, 1, "a text"))
+	x.b.Step(forge(4, 1, unsafe.String(&memory[0], len(memory))))
+	clear(memory)
+	x.p.step(forge(4, 1, frame(9000, 1, "a text")))
+	// An ack is sent for it.
+	if x.step(api.Choice{Kind: api.DoDeliver}); x.b.Letters() != 1 {
+		t.Errorf("%d letters", x.b.Letters())
+	}
+}
+
 // P1: whatever a script chooses, each choice ends, and odd nodes may send any bytes.
 func FuzzChoices(f *testing.F) {
 	f.Add([]byte{1, 1, 1, 10, 0, 3, 9, 2, 1, 2, 2, 0, 3, 0, 0, 6, 1, 9, 7, 1, 0, 8, 1, 2})

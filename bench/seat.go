@@ -13,11 +13,10 @@ import (
 
 // A seat is what there is of a node, whether it is up or not.
 type seat struct {
-	key     dkg.Key
-	seed    string
-	file    *disk.File
-	crashed bool       // the file, since the node was down
-	node    *node.Node // nil, when its life is over
+	key  dkg.Key
+	seed string
+	file *disk.File
+	node *node.Node // nil, when its life is over
 
 	events []oracle.Event
 	told   int         // how many of them Step told
@@ -33,14 +32,11 @@ func (s *seat) submit(r queue.Request) {
 	}
 }
 
-// down has its power go, and the file crash, once.
+// down has its power go, and the file crash. Of a file that crashed since the node was down all is synced, so that a further
+// crash changes nothing.
 func (s *seat) down(keep, mask int) {
 	s.emits, s.bad = append(s.emits, s.node.Emits()...), s.blamed()
 	s.node = nil
-	if s.crashed {
-		return
-	}
-	s.crashed = true
 	length, synced := s.file.Len()
 	if keep < 0 || keep > length-synced {
 		keep = length - synced
@@ -68,7 +64,7 @@ func (s *seat) open() bool {
 	if e != api.OK {
 		return false
 	}
-	s.node, s.crashed = x, false
+	s.node = x
 	return true
 }
 

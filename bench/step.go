@@ -32,7 +32,7 @@ func (b *Bench) do(x api.Choice) {
 			b.doLetter(x)
 		}
 	case api.DoRound:
-		if 1 <= x.N && x.N <= maxRounds {
+		if x.N <= maxRounds {
 			b.rounds(x.N)
 		}
 	default:
@@ -75,7 +75,7 @@ func (b *Bench) doNode(x api.Choice) {
 	}
 }
 
-// rounds has all nodes tick, and all letters come, so often.
+// rounds has all nodes tick, and all letters come, so often; never for a number below 1.
 func (b *Bench) rounds(n int) {
 	for range n {
 		for i := range b.seats {
