@@ -95,7 +95,8 @@ func (l *liar) spoilt(text string) string {
 			return []string{"", "a"}
 		}
 		at := l.source.Intn(len(items))
-		return slices.Insert(slices.Delete(items, at, at+l.source.Intn(2)), at/2, items[at])
+		item := items[at]
+		return slices.Insert(slices.Delete(items, at, at+l.source.Intn(2)), at/2, item)
 	})
 }
 

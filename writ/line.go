@@ -97,7 +97,9 @@ func choiceOf(line string) (api.Choice, bool) {
 		names := split(forms[kind])
 		if names[0] == words[0] && len(names) == len(words) {
 			c := api.Choice{Kind: kind}
-			return c, putAll(&c, names[1:], words[1:])
+			// In one statement with the call, c might be read ahead of it: Go leaves that order open.
+			is := putAll(&c, names[1:], words[1:])
+			return c, is
 		}
 	}
 	return api.Choice{}, false
